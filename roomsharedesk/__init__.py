@@ -1,0 +1,1 @@
+"""Rooms shared on a journey, whole."""
