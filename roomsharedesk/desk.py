@@ -7,9 +7,15 @@ ROOM = 1
 BEDS = 2
 WISH = 3
 BAR = 4
+PIN = 5
+FILL = 6
+MOVE = 7
+SWAP = 8
+WHO = 9
+WEIGH = 10
 
-# How many numbers stand behind each call's own number.
-NUMBERS_BEHIND = (1, 1, 2, 3, 3, 2)
+# How many numbers stand behind each call's own number, from begin (0) to state (11).
+NUMBERS_BEHIND = (1, 1, 2, 3, 3, 2, 0, 2, 2, 1, 0, 0)
 
 
 def answer(journey, call, told):
@@ -24,7 +30,19 @@ def answer(journey, call, told):
         return [journey.wish(told[0], told[1], told[2])]
     if call == BAR:
         return [journey.bar(told[0], told[1], told[2])]
-    return [journey.pin(told[0], told[1])]
+    if call == PIN:
+        return [journey.pin(told[0], told[1])]
+    if call == FILL:
+        return journey.fill()
+    if call == MOVE:
+        return [journey.move(told[0], told[1])]
+    if call == SWAP:
+        return [journey.swap(told[0], told[1])]
+    if call == WHO:
+        return journey.who(told[0])
+    if call == WEIGH:
+        return journey.weigh()
+    return journey.state()
 
 
 def answers(calls):

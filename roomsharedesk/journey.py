@@ -1,13 +1,26 @@
 """The journey: how many pupils, which rooms, wishes, bars and pins there are, and the filling."""
 
+from roomsharedesk.fillings import (
+    MOST_ROOMS,
+    best_filling,
+    count_content,
+    count_together,
+    is_too_full,
+    keeps_to_pins,
+)
+
+BAR_BROKEN = -1
 NOT_THERE = -2
 NO_PLACE_LEFT = -12
+PINNED_ELSEWHERE = -13
 NOTHING_TO_CHANGE = -17
 OUT_OF_RANGE = -22
+TOO_FULL = -28
+NO_WAY_TO_FILL = -33
 NO_PLAN = -61
+NO_FILLING = -61
 
 MOST_PUPILS = 8
-MOST_ROOMS = 4
 MOST_BEDS = 8
 MOST_PAIRS = 32
 
@@ -27,7 +40,11 @@ def tell_pair(pairs, pair, on):
 
 
 class Journey:
-    """One plan with its pins and its filling; each call answers a number, below 0 if it is refused."""
+    """One plan with its pins and its filling.
+
+    A call answers a number, below 0 if it is refused; fill, who, weigh and state answer a list of numbers, which is
+    the refusal alone if they are refused.
+    """
 
     def __init__(self):
         self.start_anew(0)
@@ -45,11 +62,27 @@ class Journey:
         # Of each pupil the room, or None for the whole where there is no filling.
         self.filling = None
 
-    def filling_left(self):
-        """1 if there is a filling still, else 0."""
+    def has_filling(self):
+        """1 if there is a filling, else 0."""
         if self.filling is None:
             return 0
         return 1
+
+    def filling_refusal(self, filling):
+        """Why a filling may not be or doesn't keep to pins; else 0."""
+        if not keeps_to_pins(filling, self.pins):
+            return PINNED_ELSEWHERE
+        if is_too_full(filling, self.rooms):
+            return TOO_FULL
+        if count_together(filling, self.bars) > 0:
+            return BAR_BROKEN
+        return 0
+
+    def look_anew(self):
+        """Give up a filling that isn't right any more: 1 if there is one still, else 0."""
+        if self.filling is not None and self.filling_refusal(self.filling) < 0:
+            self.filling = None
+        return self.has_filling()
 
     def begin(self, pupils):
         """Begin a plan anew."""
@@ -77,7 +110,7 @@ class Journey:
         if beds > MOST_BEDS:
             return OUT_OF_RANGE
         self.rooms[room] = beds
-        return self.filling_left()
+        return self.look_anew()
 
     def pair_refusal(self, a, b, on):
         """Why a wish or a bar can't be told of a and b, whatever is told already; else 0."""
@@ -102,7 +135,7 @@ class Journey:
         refusal = tell_pair(self.bars, (min(a, b), max(a, b)), on)
         if refusal < 0:
             return refusal
-        return self.filling_left()
+        return self.look_anew()
 
     def pin(self, a, where):
         """Pin a to the room with the number where - 1, or to none (where 0)."""
@@ -110,4 +143,65 @@ class Journey:
         if a >= self.pupils or where > len(self.rooms):
             return NOT_THERE
         self.pins[a] = where
-        return self.filling_left()
+        return self.look_anew()
+
+    def fill(self):
+        """Take the best filling: how many are content, then how many wishes are fulfilled."""
+        if self.pupils == 0:
+            return [NO_PLAN]
+        best = best_filling(self.rooms, self.wishes, self.bars, self.pins)
+        if best is None:
+            return [NO_WAY_TO_FILL]
+        self.filling = best
+        return self.weigh()
+
+    def change_filling(self, filling):
+        """Take another filling if it is right: how many are content."""
+        refusal = self.filling_refusal(filling)
+        if refusal < 0:
+            return refusal
+        self.filling = filling
+        return count_content(filling, self.wishes)
+
+    def move(self, a, room):
+        """Put a into the room."""
+        if self.filling is None:
+            return NO_FILLING
+        if a >= self.pupils or room >= len(self.rooms):
+            return NOT_THERE
+        changed = list(self.filling)
+        changed[a] = room
+        return self.change_filling(changed)
+
+    def swap(self, a, b):
+        """Let a and b change rooms."""
+        if self.filling is None:
+            return NO_FILLING
+        if a >= self.pupils or b >= self.pupils:
+            return NOT_THERE
+        changed = list(self.filling)
+        changed[a] = self.filling[b]
+        changed[b] = self.filling[a]
+        # Each room has as many as before, so the refusal of a room too full can't come up.
+        return self.change_filling(changed)
+
+    def who(self, room):
+        """How many are in the room, then these, rising."""
+        if self.filling is None:
+            return [NO_FILLING]
+        if room >= len(self.rooms):
+            return [NOT_THERE]
+        inside = [pupil for pupil in range(self.pupils) if self.filling[pupil] == room]
+        return [len(inside)] + inside
+
+    def weigh(self):
+        """How many are content, then how many wishes are fulfilled."""
+        if self.filling is None:
+            return [NO_FILLING]
+        return [count_content(self.filling, self.wishes), count_together(self.filling, self.wishes)]
+
+    def state(self):
+        """Whether there is a filling, then how many rooms, wishes and bars there are."""
+        if self.pupils == 0:
+            return [NO_PLAN]
+        return [self.has_filling(), len(self.rooms), len(self.wishes), len(self.bars)]

@@ -1,9 +1,9 @@
-"""Promise 1: begin, and the -61 of room, wish and bar."""
+"""Promise 1: begin, and the -61 of room, wish, bar, fill and state."""
 
 import unittest
 
 from roomsharedesk.journey import Journey
-from tests.asking import GREATEST, ask, bar, beds, begin, each_one, pin, room, wish
+from tests.asking import GREATEST, ask, bar, beds, begin, each_one, fill, pin, room, state, wish
 
 
 class Begin(unittest.TestCase):
@@ -70,6 +70,9 @@ class NoPlan(unittest.TestCase):
     def test_room_wish_and_bar(self):
         given = ask(room(2), wish(0, 1), wish(0, 1, 0), bar(0, 1), bar(0, 1, 0))
         self.assertEqual(given, each_one(-61, -61, -61, -61, -61))
+
+    def test_fill_and_state(self):
+        self.assertEqual(ask(fill(), state(), begin(9), fill(), state()), each_one(-61, -61, -22, -61, -61))
 
     def test_it_comes_ahead_of_the_other_refusals(self):
         given = ask(
