@@ -111,7 +111,8 @@ class State(unittest.TestCase):
         self.assertEqual(given[2:], [[0, 1, 0, 0], 1, [2, 0], [1, 2, 0, 0], 0, [0, 2, 0, 0]])
 
     def test_the_most_there_can_be(self):
-        calls = [begin(8)] + [room(8)] * 5 + [wish(a, b) for a, b in all_pairs(8)] + [bar(a, b) for a, b in all_pairs(8)]
+        calls = [begin(8)] + [room(8)] * 5
+        calls += [wish(a, b) for a, b in all_pairs(8)] + [bar(a, b) for a, b in all_pairs(8)]
         self.assertEqual(last_answered(*calls, state()), [0, 4, 32, 28])
 
     def test_begin_behind_a_filling(self):

@@ -126,7 +126,8 @@ class Move(Change):
 class Swap(Change):
     # Behind these: 0 and 1 in room 0, 2 and 3 in room 1, 4 in room 2.
     FILLED = [
-        begin(5), room(2), room(2), room(1), wish(0, 1), wish(1, 0), wish(2, 3), bar(1, 4), bar(3, 0), pin(4, 3), fill(),
+        begin(5), room(2), room(2), room(1), wish(0, 1), wish(1, 0), wish(2, 3), bar(1, 4), bar(3, 0), pin(4, 3),
+        fill(),
     ]
 
     def test_behind_fill(self):
@@ -153,7 +154,9 @@ class Swap(Change):
         self.assertEqual(given, [-61, 0, 0, -61, [2, 0], 2, 0, -61])
 
     def test_no_filling_comes_ahead_of_all(self):
-        given = answered(swap(9, 9), begin(2), swap(9, 9), room(2), room(0), pin(0, 2), bar(0, 1), swap(0, 2), swap(0, 1))
+        given = answered(
+            swap(9, 9), begin(2), swap(9, 9), room(2), room(0), pin(0, 2), bar(0, 1), swap(0, 2), swap(0, 1),
+        )
         self.assertEqual(given, [-61, 0, -61, 0, 1, 0, 0, -61, -61])
 
     def test_no_pupil(self):

@@ -137,7 +137,8 @@ class RefusedChangesNothing(unittest.TestCase):
     def test_seen_from_outside(self):
         # Behind these: 0 and 3 in room 0, 1 in room 1, 2 in room 2.
         calls = [
-            begin(4), room(2), room(2), room(1), room(0), wish(0, 3), wish(1, 2), bar(0, 1), bar(2, 1), pin(2, 3), fill(),
+            begin(4), room(2), room(2), room(1), room(0), wish(0, 3), wish(1, 2), bar(0, 1), bar(2, 1), pin(2, 3),
+            fill(),
         ]
         refused = [
             begin(0), room(1), room(9), beds(4, 1), beds(0, 9), wish(0, 3), wish(1, 1), bar(1, 0), bar(3, 2, 0),
